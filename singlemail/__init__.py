@@ -1,0 +1,1 @@
+"""Datagrams: the sockets of one machine, which port is whose and who hears what comes."""
