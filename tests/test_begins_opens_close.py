@@ -57,7 +57,7 @@ class Opens(unittest.TestCase):
         self.assertEqual(numbers(*rows)[6:], [0, 0, 0, 1, 3, 4, 6])
 
     def test_a_socket_is_without_anything(self):
-        self.assertEqual(state(machine_with(1)), (49152, {0: (0, 0, (0, 0), 0, [])}))
+        self.assertEqual(state(machine_with(1)), (49152, {0: (0, 0, (0, 0), 0, [], None, 0)}))
 
     def test_a_number_taken_again_has_nothing_of_the_one_before(self):
         machine = machine_with(1)
@@ -65,7 +65,7 @@ class Opens(unittest.TestCase):
         machine.hear(0, 1)
         machine.close(0)
         machine.opens()
-        self.assertEqual(state(machine), (49153, {0: (0, 0, (0, 0), 0, [])}))
+        self.assertEqual(state(machine), (49153, {0: (0, 0, (0, 0), 0, [], None, 0)}))
 
     def test_sockets_share_nothing(self):
         machine = machine_with(2)
@@ -88,7 +88,8 @@ class Close(unittest.TestCase):
         machine.bind(0, 1, 10)
         machine.bind(2, 2, 20)
         self.assertEqual(machine.close(1), 0)
-        self.assertEqual(state(machine), (49152, {0: (1, 10, (0, 0), 0, []), 2: (2, 20, (0, 0), 0, [])}))
+        self.assertEqual(
+            state(machine), (49152, {0: (1, 10, (0, 0), 0, [], None, 0), 2: (2, 20, (0, 0), 0, [], None, 0)}))
 
     def test_its_port_is_free_again_and_the_turn_stays(self):
         self.assertEqual(

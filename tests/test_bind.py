@@ -13,7 +13,7 @@ class Bind(unittest.TestCase):
     def test_its_place_is_kept(self):
         machine = machine_with(1)
         machine.bind(0, 167772161, 53)
-        self.assertEqual(state(machine), (49152, {0: (167772161, 53, (0, 0), 0, [])}))
+        self.assertEqual(state(machine), (49152, {0: (167772161, 53, (0, 0), 0, [], None, 0)}))
 
     def test_edges_of_the_ranges(self):
         for a, p in ((0, 1), (0, 65535), (1, 1), (EVERYBODY - 1, 65535), (EVERYBODY - 1, 1)):
@@ -23,7 +23,7 @@ class Bind(unittest.TestCase):
     def test_the_address_is_kept_where_a_port_is_given(self):
         machine = machine_with(1)
         self.assertEqual(machine.bind(0, 9, 0), 49152)
-        self.assertEqual(state(machine), (49153, {0: (9, 49152, (0, 0), 0, [])}))
+        self.assertEqual(state(machine), (49153, {0: (9, 49152, (0, 0), 0, [], None, 0)}))
 
 
 class Refusals(unittest.TestCase):

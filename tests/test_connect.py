@@ -3,26 +3,27 @@
 import unittest
 
 from singlemail.sockets import Message, Socket
-from tests.helper import EVERYBODY, HUGE, begins, bind, close, connect, machine_with, numbers, opens, state
+from tests.helper import (EVERYBODY, HUGE, arrives, begins, bind, close, connect, fails, last, machine_with, numbers,
+                          opens, parts, state, take, told)
 
 
 class Connect(unittest.TestCase):
     def test_one_that_has_no_place_is_given_one(self):
         machine = machine_with(1)
         self.assertEqual(machine.connect(0, 9, 5, 6), 49152)
-        self.assertEqual(state(machine), (49153, {0: (9, 49152, (5, 6), 0, [])}))
+        self.assertEqual(state(machine), (49153, {0: (9, 49152, (5, 6), 0, [], None, 0)}))
 
     def test_one_that_has_an_address_and_a_port_keeps_them(self):
         machine = machine_with(1)
         machine.bind(0, 8, 80)
         self.assertEqual(machine.connect(0, 9, 5, 6), 80)
-        self.assertEqual(state(machine), (49152, {0: (8, 80, (5, 6), 0, [])}))
+        self.assertEqual(state(machine), (49152, {0: (8, 80, (5, 6), 0, [], None, 0)}))
 
     def test_one_with_a_port_and_any_address_has_a_for_its_address(self):
         machine = machine_with(1)
         machine.bind(0, 0, 80)
         self.assertEqual(machine.connect(0, 9, 5, 6), 80)
-        self.assertEqual(state(machine), (49152, {0: (9, 80, (5, 6), 0, [])}))
+        self.assertEqual(state(machine), (49152, {0: (9, 80, (5, 6), 0, [], None, 0)}))
 
     def test_an_address_of_0_stays_any(self):
         machine = machine_with(1)
@@ -35,7 +36,7 @@ class Connect(unittest.TestCase):
         machine = machine_with(1)
         machine.connect(0, 9, 5, 6)
         self.assertEqual(machine.connect(0, 10, 7, 8), 49152)
-        self.assertEqual(state(machine), (49153, {0: (9, 49152, (7, 8), 0, [])}))
+        self.assertEqual(state(machine), (49153, {0: (9, 49152, (7, 8), 0, [], None, 0)}))
 
     def test_anew_with_the_same_peer(self):
         self.assertEqual(numbers(opens(), connect(0, 0, 5, 6), connect(0, 0, 5, 6)), [0, 49152, 49152])
@@ -99,18 +100,68 @@ class WhatWaits(unittest.TestCase):
         self.assertEqual(self.waiting(1), [0, 1, 2, 3, 4, 5])
 
 
+class WhatWaitsByCalls(unittest.TestCase):
+    """Who sent what waits, as far as calls tell: by told how many, by take from whom."""
+
+    def setUp(self):
+        senders = ((5, 6), (5, 7), (6, 6), (5, 6), (0, 0), (6, 5))
+        self.before = [opens(), opens(), bind(0, 7, 80), bind(1, 8, 80)]
+        self.before += [arrives(f, p, t, 80, [at]) for at, (f, p) in enumerate(senders) for t in (7, 8)]
+
+    def waiting(self, k, *rows):
+        found = parts(*self.before, *rows, told(k), *[take(k, 1) for step in range(7)])[-8:]
+        bodies = [part[7] for part in found[1:] if part[0] == 1]
+        self.assertEqual(found[0][6:8], [len(bodies), 0])
+        return bodies
+
+    def test_what_waits_from_others_is_dropped(self):
+        self.assertEqual(self.waiting(0, connect(0, 0, 5, 6)), [0, 3])
+        self.assertEqual(self.waiting(0, connect(0, 0, 6, 5)), [5])
+        self.assertEqual(self.waiting(0, connect(0, 0, 9, 9)), [])
+
+    def test_another_sockets_queue_stays(self):
+        self.assertEqual(self.waiting(1, connect(0, 0, 5, 6)), [0, 1, 2, 3, 4, 5])
+
+    def test_the_same_peer_again_drops_nothing_more(self):
+        self.assertEqual(self.waiting(0, connect(0, 0, 5, 6), connect(0, 0, 5, 6)), [0, 3])
+
+    def test_another_peer_then_drops_the_rest(self):
+        self.assertEqual(self.waiting(0, connect(0, 0, 5, 6), connect(0, 0, 5, 7)), [])
+
+    def test_all_stays_where_a_peer_is_let_go(self):
+        self.assertEqual(self.waiting(0, connect(0, 0, 0, 0)), [0, 1, 2, 3, 4, 5])
+        self.assertEqual(self.waiting(0, connect(0, 0, 5, 6), connect(0, 0, 0, 0)), [0, 3])
+
+    def test_all_stays_where_it_is_refused(self):
+        rows = (opens(), connect(0, 0, 9, 9), bind(2, 7, 80), arrives(5, 6, 7, 80, [1]), arrives(3, 4, 7, 80, [2]))
+        self.assertEqual(self.waiting(2, *rows, connect(2, 0, 9, 9)), [1, 2])
+        self.assertEqual(self.waiting(0, connect(0, EVERYBODY, 5, 6), connect(0, 0, 5, 0)), [0, 1, 2, 3, 4, 5])
+
+    def test_nothing_is_wanted_and_told(self):
+        self.assertEqual(last(*self.before, connect(0, 0, 5, 6)), [80, 0, 0, 0])
+
+    def test_what_is_dropped_leaves_room(self):
+        rows = [arrives(3, 4, 7, 80, []) for step in range(26)] + [connect(0, 0, 5, 6)]
+        rows += [arrives(5, 6, 7, 80, [9]) for step in range(31)]
+        self.assertEqual(last(*self.before, *rows, told(0)), [0, 6, 7, 80, 5, 6, 32, 1, 0, 0])
+
+    def test_an_error_is_not_dropped(self):
+        self.assertEqual(last(*self.before, connect(0, 0, 5, 6), fails(3, 4, 7, 80, 5, 6), connect(0, 0, 8, 9),
+                              take(0, 9)), [2, 2, 3, 4, 0, 0])
+
+
 class PeerLetGo(unittest.TestCase):
     def test_answers_0_and_keeps_the_place(self):
         machine = machine_with(1)
         machine.connect(0, 9, 5, 6)
         self.assertEqual(machine.connect(0, 10, 0, 0), 0)
-        self.assertEqual(state(machine), (49153, {0: (9, 49152, (0, 0), 0, [])}))
+        self.assertEqual(state(machine), (49153, {0: (9, 49152, (0, 0), 0, [], None, 0)}))
 
     def test_any_address_stays_any(self):
         machine = machine_with(1)
         machine.connect(0, 0, 5, 6)
         self.assertEqual(machine.connect(0, 10, 0, 0), 0)
-        self.assertEqual(state(machine), (49153, {0: (0, 49152, (0, 0), 0, [])}))
+        self.assertEqual(state(machine), (49153, {0: (0, 49152, (0, 0), 0, [], None, 0)}))
 
     def test_one_without_anything_is_given_nothing(self):
         machine = machine_with(2)

@@ -1,6 +1,7 @@
 """The form of the package's own files, as far as a test can see it (the rules' numbers stand by each test)."""
 
 import ast
+import builtins
 import pathlib
 import re
 import unittest
@@ -12,6 +13,11 @@ WITHIN_WORDS_OUT = ("dataclass", "overload", "contextmanager")
 NODES_OUT = (ast.With, ast.Match, ast.Delete, ast.Global, ast.Nonlocal, ast.Assert, ast.Yield, ast.YieldFrom,
              ast.AsyncFunctionDef, ast.Await, ast.SetComp, ast.DictComp, ast.GeneratorExp, ast.NamedExpr,
              ast.Starred, ast.Div, ast.Import, ast.AnnAssign)
+NAMES_IN = ("len range enumerate zip min max sum abs sorted reversed int str bool list tuple dict set frozenset "
+            "isinstance ord repr any all divmod").split()
+METHODS_IN = ("append clear copy count endswith extend find get index insert items join keys pop remove replace reverse "
+              "setdefault split startswith strip update values bit_length").split()
+WALKED_AT_ONCE = ("zip", "enumerate", "reversed", "range")
 METHODS_OUT = ("sort", "popitem", "format", "encode", "register", "mro", "elements", "open", "input")
 
 
@@ -77,6 +83,57 @@ class Form(unittest.TestCase):
             if isinstance(node, ast.Attribute):
                 self.assertFalse(node.attr.startswith("_"), place)
                 self.assertNotIn(node.attr, METHODS_OUT, place)
+
+    def test_pythons_own_names(self):
+        """L8, L15: those listed alone, and none of Python's own given another meaning"""
+        for place, node in self.nodes():
+            if isinstance(node, ast.Name) and hasattr(builtins, node.id):
+                self.assertIn(node.id, NAMES_IN, place)
+                self.assertIsInstance(node.ctx, ast.Load, place)
+            if isinstance(node, ast.arg):
+                self.assertFalse(hasattr(builtins, node.arg), place)
+
+    def test_no_local_is_called_like_an_import_or_a_def(self):
+        """L15"""
+        for name, text in self.texts.items():
+            tree = ast.parse(text)
+            tops = {alias.name for node in tree.body if isinstance(node, ast.ImportFrom) for alias in node.names}
+            tops |= {node.name for node in tree.body if isinstance(node, (ast.FunctionDef, ast.ClassDef))}
+            for node in ast.walk(tree):
+                if isinstance(node, ast.arg):
+                    self.assertNotIn(node.arg, tops, f"{name}:{node.lineno}")
+                if isinstance(node, ast.Name) and isinstance(node.ctx, ast.Store):
+                    self.assertNotIn(node.id, tops, f"{name}:{node.lineno}")
+
+    def test_methods(self):
+        """L25: of Python's own values those listed, else the package's own"""
+        own = {item.name for _, node in self.nodes() if isinstance(node, ast.ClassDef) for item in node.body
+               if isinstance(item, ast.FunctionDef)}
+        for place, node in self.nodes():
+            if isinstance(node, ast.Call) and isinstance(node.func, ast.Attribute):
+                self.assertIn(node.func.attr, own | set(METHODS_IN), place)
+
+    def test_walked_at_once(self):
+        """L23: none is given a name, handed to another or given back"""
+        walked = set()
+        for _, node in self.nodes():
+            if isinstance(node, (ast.For, ast.comprehension)):
+                walked.add(ast.unparse(node.iter))
+        for place, node in self.nodes():
+            if isinstance(node, ast.Call) and isinstance(node.func, ast.Name) and node.func.id in WALKED_AT_ONCE:
+                self.assertIn(ast.unparse(node), walked, place)
+
+    def test_no_two_files_draw_from_one_another(self):
+        """L16"""
+        drawn = {}
+        for name, text in self.texts.items():
+            drawn[name] = {node.module.split(".")[-1] + ".py" for node in ast.walk(ast.parse(text))
+                           if isinstance(node, ast.ImportFrom)}
+        for name in drawn:
+            reached = set(drawn[name])
+            for step in drawn:
+                reached |= {further for other in reached for further in drawn[other]}
+            self.assertNotIn(name, reached)
 
     def test_no_name_is_a_method_and_a_value(self):
         """L18"""

@@ -2,7 +2,7 @@
 
 import unittest
 
-from tests.helper import hear, machine_with, numbers, opens, state
+from tests.helper import EVERYBODY, arrives, bind, connect, hear, last, machine_with, numbers, opens, state
 
 
 class Hear(unittest.TestCase):
@@ -13,14 +13,27 @@ class Hear(unittest.TestCase):
         machine = machine_with(2)
         for b in (1, 1, 0, 0, 1):
             machine.hear(1, b)
-            self.assertEqual(state(machine), (49152, {0: (0, 0, (0, 0), 0, []), 1: (0, 0, (0, 0), b, [])}))
+            self.assertEqual(
+                state(machine), (49152, {0: (0, 0, (0, 0), 0, [], None, 0), 1: (0, 0, (0, 0), b, [], None, 0)}))
 
     def test_the_rest_of_it_stays(self):
         machine = machine_with(1)
         machine.bind(0, 7, 80)
         machine.connect(0, 0, 5, 6)
         machine.hear(0, 1)
-        self.assertEqual(state(machine), (49152, {0: (7, 80, (5, 6), 1, [])}))
+        self.assertEqual(state(machine), (49152, {0: (7, 80, (5, 6), 1, [], None, 0)}))
+
+    def test_by_what_came(self):
+        heard = [1, 0, 0, 1, 2, 0]
+        for values, answer in (((), [0, 0, 0, 0]), ((1,), heard), ((0,), [0, 0, 0, 0]), ((1, 1), heard),
+                               ((1, 0), [0, 0, 0, 0]), ((0, 1), heard), ((1, 2), heard), ((1, -1), heard),
+                               ((0, 2), [0, 0, 0, 0])):
+            rows = [opens(), bind(0, 7, 80)] + [hear(0, b) for b in values]
+            self.assertEqual(last(*rows, arrives(5, 6, EVERYBODY, 80, [])), answer, values)
+
+    def test_it_stays_whatever_place_the_socket_has_then(self):
+        self.assertEqual(last(opens(), hear(0, 1), connect(0, 9, 5, 6), connect(0, 0, 0, 0),
+                              arrives(3, 4, EVERYBODY, 49152, [])), [1, 0, 0, 1, 2, 0])
 
     def refused(self, machine, k, b, answer):
         before = state(machine)
